@@ -1,0 +1,1 @@
+"""Leastasks: how few asks settle a question."""
