@@ -118,6 +118,14 @@ class Made(Case):
             self.assert_refused(NoWord, question_made, [wrong, "a"], [0, 1, 1, 1])
             self.assert_refused(NoWord, question_made, ["a", "b", "c", "d", "e", wrong], [0] * 64)
 
+    def test_every_sign_that_is_a_small_letter_and_every_other_one(self):
+        for sign in [chr(number) for number in range(ord(" "), ord("~") + 1)]:
+            for place in (sign, "q" + sign, sign + "q"):
+                if "a" <= sign <= "z":
+                    self.assert_question(question_made([place], [0, 1]), [place], [0, 1])
+                else:
+                    self.assert_refused(NoWord, question_made, [place], [0, 1])
+
     def test_twice(self):
         self.assert_refused(Twice, question_made, ["a", "a"], [0] * 4)
         self.assert_refused(Twice, question_made, ["a", "b", "a"], [0] * 8)

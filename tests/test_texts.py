@@ -10,6 +10,7 @@ from leastasks.texts import question_read, question_shown
 
 SIX = ["a", "b", "c", "d", "e", "f"]
 KINDS = ["not", "all", "any", "odd", "least", "just", "table", "ring", "joined"]
+EVERY_SIGN = [chr(number) for number in range(ord(" "), ord("~") + 1)]
 TIES = list(itertools.combinations(range(4), 2))
 RINGS = [
     [(0, 1), (1, 2), (0, 2)], [(0, 1), (1, 3), (0, 3)], [(0, 2), (2, 3), (0, 3)], [(1, 2), (2, 3), (1, 3)],
@@ -249,6 +250,19 @@ class Refused(Case):
     def test_broken_texts(self):
         for text in BROKEN + TWO_FORMS:
             self.assert_refused(NoText, text, ["a", "b"])
+
+    def test_every_other_sign_in_a_table_a_number_and_a_word(self):
+        for sign in EVERY_SIGN:
+            if sign not in "01":
+                self.assert_refused(NoText, f"( table 0{sign} a )", ["a"])
+                self.assert_refused(NoText, f"( table {sign}1 a )", ["a"])
+            if sign not in "0123456789":
+                self.assert_refused(NoText, f"( least {sign} a )", ["a"])
+                self.assert_refused(NoText, f"( least 1{sign} a )", ["a"])
+                self.assert_refused(NoText, f"( just {sign}1 a )", ["a"])
+            if sign not in "abcdefghijklmnopqrstuvwxyz":
+                self.assert_refused(NoText, f"a{sign}", ["a"])
+                self.assert_refused(NoText, f"( any a {sign}a )", ["a"])
 
     def test_broken_texts_with_a_strange_word(self):
         for text in BROKEN:
