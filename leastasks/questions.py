@@ -3,7 +3,7 @@
 from leastasks.errors import NoPlace, NoWord, Twice, Unlike, WrongAnswers
 from leastasks.pieces import is_word
 from leastasks.ratios import fraction
-from leastasks.rows import ANSWERS, refuse_wrong_size, row_number, rows_in, rows_of
+from leastasks.rows import ANSWERS, NOT_TOLD, refuse_wrong_size, row_number, rows_in, rows_of
 
 
 def question_made(places, answers):
@@ -59,6 +59,10 @@ def put_in_order(question, places):
     spots = [places.index(place) for place in question[0]]
     rows = [picked(row, spots) for row in rows_of(len(places))]
     return (tuple(places), tuple([answer_to(question, row) for row in rows]))
+
+
+def all_open(question):
+    return (NOT_TOLD,) * len(question[0])
 
 
 def spot_of(question, place):

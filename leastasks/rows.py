@@ -51,6 +51,10 @@ def rows_in(part):
     return all_choices([ANSWERS if told == NOT_TOLD else (told,) for told in part])
 
 
+def parts_in(part):
+    return all_choices([TELLINGS if told == NOT_TOLD else (told,) for told in part])
+
+
 def told_further(part, spot, answer):
     # A spot below 0 would count from the part's end, and there is no such spot.
     if spot < 0 or spot >= len(part) or part[spot] != NOT_TOLD:

@@ -1,8 +1,8 @@
 """Whether a plan settles a question, and what of the plan isn't needed for that."""
 
 from leastasks.plans import answer_told, asking, followed, is_ask, place_asked, plan_behind, telling
-from leastasks.questions import answer_to, settled_by, spot_of
-from leastasks.rows import NOT_TOLD, rows_of, told_further
+from leastasks.questions import all_open, answer_to, settled_by, spot_of
+from leastasks.rows import rows_of, told_further
 
 
 def row_mistold(question, plan):
@@ -13,7 +13,7 @@ def row_mistold(question, plan):
 
 
 def trimmed(question, plan):
-    return trimmed_at(question, plan, (NOT_TOLD,) * len(question[0]))
+    return trimmed_at(question, plan, all_open(question))
 
 
 def trimmed_at(question, plan, part):

@@ -1,30 +1,14 @@
 import copy
-import inspect
 import itertools
 import unittest
 
 from leastasks import plans
 from leastasks.errors import NoPlan, NoWord, Twice, WrongPrices, WrongSize, WrongWeights
 from leastasks.plans import cost_on_whole, dearest_way, depth_of, followed, plan_read, plan_shown
+from wanted import MILLION, NO, SIX, YES, Case, every_plan, wanted_rows, way_of, wrong_prices, wrong_weights
 
-SIX = ["a", "b", "c", "d", "e", "f"]
-MILLION = 10 ** 6
-NO = ("tell", 0)
-YES = ("tell", 1)
 RAIN_WIND = ("ask", "rain", NO, ("ask", "wind", NO, YES))
 UNEVEN = ("ask", "b", ("ask", "a", YES, NO), ("ask", "c", ("ask", "a", NO, YES), YES))
-
-
-def wanted_rows(many):
-    return list(itertools.product((0, 1), repeat=many))
-
-
-def every_plan(places):
-    found = [NO, YES]
-    for place in places:
-        further = every_plan([other for other in places if other != place])
-        found.extend(("ask", place, if_no, if_yes) for if_no in further for if_yes in further)
-    return found
 
 
 def some_plans(many):
@@ -42,13 +26,6 @@ def asked_last(plan, place):
     return ("ask", plan[1], asked_last(plan[2], place), asked_last(plan[3], place))
 
 
-def way_of(plan, numbers):
-    if plan[0] == "tell":
-        return (plan[1], [])
-    answer, asked = way_of(plan[2 + numbers[plan[1]]], numbers)
-    return (answer, [plan[1]] + asked)
-
-
 def ways_of(plan):
     if plan[0] == "tell":
         return [[]]
@@ -57,17 +34,6 @@ def ways_of(plan):
 
 def text_of(plan):
     return str(plan[1]) if plan[0] == "tell" else f"{plan[1]} {text_of(plan[2])} {text_of(plan[3])}"
-
-
-class Case(unittest.TestCase):
-    def assert_refused(self, error, function, *arguments):
-        with self.assertRaises(error, msg=(function, arguments)) as caught:
-            function(*arguments)
-        self.assertIs(type(caught.exception), error, arguments)
-
-    def assert_number(self, told, wanted):
-        self.assertEqual(told, wanted)
-        self.assertIs(type(told), int)
 
 
 class Interface(Case):
@@ -80,8 +46,7 @@ class Interface(Case):
             "plan_shown": "(plan)",
             "plan_read": "(text, places)",
         }
-        for name, arguments in wanted.items():
-            self.assertEqual(str(inspect.signature(getattr(plans, name))), arguments)
+        self.assert_arguments(plans, wanted)
 
 
 class Followed(Case):
@@ -174,24 +139,6 @@ class Dearest(Case):
             for plan in (NO, some_plans(many)[-1]):
                 for prices in wrong_prices(many):
                     self.assert_refused(WrongPrices, dearest_way, plan, SIX[:many], prices)
-
-
-def wrong_prices(many):
-    right = [4] * many
-    wrong = [[], right + [4], right[1:], right + right]
-    for number in (0, -1, MILLION + 1, 10 ** 12, -10 ** 12):
-        wrong.extend([[number] + right[1:], right[1:] + [number]])
-    return wrong
-
-
-def wrong_weights(many):
-    right = [4] * 2 ** many
-    wrong = [[], right + [4], right[1:], right + right, [0] * len(right)]
-    for number in (-1, MILLION + 1, 10 ** 12, -10 ** 12):
-        wrong.extend([[number] + right[1:], right[1:] + [number]])
-    # Together not 0, or 0 together without being all 0.
-    wrong.append([-1, 1] * (len(right) // 2))
-    return wrong
 
 
 class OnWhole(Case):

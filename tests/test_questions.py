@@ -8,23 +8,14 @@ from leastasks.errors import NoPlace, NoWord, Twice, Unlike, WrongAnswers, Wrong
 from leastasks.questions import (
     answer_to, counted_in, denied, put_in_order, question_made, row_apart, settled_by, sure_of, turned_about,
 )
+from wanted import Case, every_question, fits, wanted_parts, wanted_rows
 
 NAMES = ["rain", "wind", "a", "zzzzzzzz", "all", "abcdefgh"]
 COUNTS = range(1, 7)
 FEW = range(1, 5)
-NO_WORDS = ["", "ninelette", "Rain", "raiN", "RAIN", "r4in", "4", "0", " ", "ra in", " rain", "rain ", "ra_in", "(", "~"]
-
-
-def wanted_rows(many):
-    return list(itertools.product((0, 1), repeat=many))
-
-
-def wanted_parts(many):
-    return list(itertools.product((0, 1, 2), repeat=many))
-
-
-def fits(row, part):
-    return all(told == 2 or told == number for number, told in zip(row, part))
+NO_WORDS = [
+    "", "ninelette", "Rain", "raiN", "RAIN", "r4in", "4", "0", " ", "ra in", " rain", "rain ", "ra_in", "(", "~",
+]
 
 
 def answers_of(many, seed):
@@ -34,8 +25,7 @@ def answers_of(many, seed):
 
 def some_questions(many):
     if many <= 2:
-        every = itertools.product((0, 1), repeat=2 ** many)
-        return [question_made(NAMES[:many], list(answers)) for answers in every]
+        return every_question(NAMES[:many])
     made = [question_made(NAMES[:many], answers_of(many, seed)) for seed in (5, 6, 9, 14, 27)]
     made.append(question_made(NAMES[:many], [0] * 2 ** many))
     made.append(question_made(NAMES[:many], [1] * 2 ** many))
@@ -47,12 +37,7 @@ def answers_by_row(question):
     return dict(zip(wanted_rows(len(question[0])), question[1]))
 
 
-class Case(unittest.TestCase):
-    def assert_refused(self, error, function, *arguments):
-        with self.assertRaises(error, msg=(function, arguments)) as caught:
-            function(*arguments)
-        self.assertIs(type(caught.exception), error, arguments)
-
+class QuestionCase(Case):
     def assert_question(self, told, places, answers):
         self.assertEqual(told, (tuple(places), tuple(answers)))
         self.assertEqual([type(told), type(told[0]), type(told[1])], [tuple, tuple, tuple])
@@ -60,7 +45,7 @@ class Case(unittest.TestCase):
         self.assertTrue(all(type(answer) is int for answer in told[1]))
 
 
-class Interface(Case):
+class Interface(QuestionCase):
     def test_the_arguments_are_called_as_told(self):
         wanted = {
             "question_made": ["places", "answers"],
@@ -77,7 +62,7 @@ class Interface(Case):
             self.assertEqual(list(inspect.signature(getattr(questions, name)).parameters), arguments)
 
 
-class Made(Case):
+class Made(QuestionCase):
     def test_of_one_to_six_places(self):
         for many in COUNTS:
             places = NAMES[:many]
@@ -157,7 +142,7 @@ class Made(Case):
         self.assert_refused(Twice, question_made, ["a", "a"], [0, 0, 0, 2])
 
 
-class Answers(Case):
+class Answers(QuestionCase):
     def test_written_out(self):
         question = question_made(["rain", "wind"], [0, 1, 1, 0])
         self.assertEqual(answer_to(question, (0, 1)), 1)
@@ -208,7 +193,7 @@ class Answers(Case):
                     self.assertEqual(settled_by(question, part), answer)
 
 
-class Apart(Case):
+class Apart(QuestionCase):
     def test_every_two_of_two_places(self):
         for one in some_questions(2):
             for other in some_questions(2):
@@ -248,7 +233,7 @@ class Apart(Case):
         self.assert_refused(Unlike, row_apart, question, question_made(["wind", "rain"], [0, 1, 1, 0]))
 
 
-class Changed(Case):
+class Changed(QuestionCase):
     def test_denied(self):
         self.assert_question(denied(question_made(["a", "b"], [0, 1, 1, 1])), ["a", "b"], [1, 0, 0, 0])
         for many in COUNTS:
@@ -282,7 +267,7 @@ class Changed(Case):
             self.assert_refused(NoPlace, turned_about, question, place)
 
 
-class Ordered(Case):
+class Ordered(QuestionCase):
     def test_written_out(self):
         question = question_made(["a", "b", "c"], [0, 0, 0, 0, 1, 1, 0, 1])
         self.assert_question(put_in_order(question, ["c", "a", "b"]), ["c", "a", "b"], [0, 0, 1, 0, 0, 0, 1, 1])

@@ -1,5 +1,4 @@
 import inspect
-import itertools
 import unittest
 
 from leastasks import rows
@@ -7,19 +6,12 @@ from leastasks.errors import NoAsk, WrongSize
 from leastasks.rows import (
     part_at, part_number, part_within, parts_of, row_at, row_fits, row_number, rows_in, rows_of, told_further,
 )
+from wanted import Case, wanted_parts, wanted_rows
 
 COUNTS = range(1, 7)
 FEW = range(1, 5)
 WRONG_COUNTS = (0, -1, -2, 7, 8, 9)
 FAR = 10 ** 12
-
-
-def wanted_rows(many):
-    return list(itertools.product((0, 1), repeat=many))
-
-
-def wanted_parts(many):
-    return list(itertools.product((0, 1, 2), repeat=many))
 
 
 def tells_what_it_has(row, part):
@@ -35,7 +27,7 @@ def rows_found(part):
     return [row for row in wanted_rows(len(part)) if tells_what_it_has(row, part)]
 
 
-class Case(unittest.TestCase):
+class RowCase(Case):
     def assert_tuple_of_numbers(self, told):
         self.assertIs(type(told), tuple)
         for figure in told:
@@ -47,13 +39,8 @@ class Case(unittest.TestCase):
         for one in told:
             self.assert_tuple_of_numbers(one)
 
-    def assert_refused(self, error, function, *arguments):
-        with self.assertRaises(error, msg=(function, arguments)) as caught:
-            function(*arguments)
-        self.assertIs(type(caught.exception), error)
 
-
-class Interface(Case):
+class Interface(RowCase):
     def test_the_arguments_are_called_as_told(self):
         wanted = {
             "rows_of": ["many"],
@@ -71,7 +58,7 @@ class Interface(Case):
             self.assertEqual(list(inspect.signature(getattr(rows, name)).parameters), arguments)
 
 
-class Rows(Case):
+class Rows(RowCase):
     def test_two_places_written_out(self):
         self.assert_list_of_tuples(rows_of(1), [(0,), (1,)])
         self.assert_list_of_tuples(rows_of(2), [(0, 0), (0, 1), (1, 0), (1, 1)])
@@ -95,7 +82,7 @@ class Rows(Case):
                 self.assert_refused(WrongSize, row_at, many, number)
 
 
-class Parts(Case):
+class Parts(RowCase):
     def test_two_places_written_out(self):
         self.assert_list_of_tuples(parts_of(1), [(0,), (1,), (2,)])
         self.assert_list_of_tuples(
@@ -128,7 +115,7 @@ class Parts(Case):
                 self.assert_refused(WrongSize, part_at, many, number)
 
 
-class Fitting(Case):
+class Fitting(RowCase):
     def test_written_out(self):
         self.assertIs(row_fits((0, 1, 1), (0, 2, 1)), True)
         self.assertIs(row_fits((0, 1, 1), (0, 2, 0)), False)
@@ -152,7 +139,7 @@ class Fitting(Case):
                 self.assert_list_of_tuples(rows_in(row), [row])
 
 
-class ToldFurther(Case):
+class ToldFurther(RowCase):
     def test_written_out(self):
         self.assertEqual(told_further((2, 0, 2), 0, 1), (1, 0, 2))
         self.assertEqual(told_further((2, 0, 2), 2, 0), (2, 0, 0))
@@ -181,7 +168,7 @@ class ToldFurther(Case):
                         self.assert_refused(NoAsk, told_further, part, spot, answer)
 
 
-class Within(Case):
+class Within(RowCase):
     def test_written_out(self):
         self.assertIs(part_within((0, 1, 2), (0, 2, 2)), True)
         self.assertIs(part_within((0, 2, 2), (0, 1, 2)), False)
@@ -208,7 +195,7 @@ class Within(Case):
                 self.assertIs(part_within(part, further), False)
 
 
-class Tellings(Case):
+class Tellings(RowCase):
     def assert_own_list(self, function, argument, wanted):
         first = function(argument)
         kept = function(argument)

@@ -7,8 +7,8 @@ from leastasks import texts
 from leastasks.errors import NoPlace, NoText, NoWord, Twice, WrongSize
 from leastasks.questions import question_made
 from leastasks.texts import question_read, question_shown
+from wanted import SIX, wanted_rows
 
-SIX = ["a", "b", "c", "d", "e", "f"]
 KINDS = ["not", "all", "any", "odd", "least", "just", "table", "ring", "joined"]
 EVERY_SIGN = [chr(number) for number in range(ord(" "), ord("~") + 1)]
 TIES = list(itertools.combinations(range(4), 2))
@@ -16,10 +16,6 @@ RINGS = [
     [(0, 1), (1, 2), (0, 2)], [(0, 1), (1, 3), (0, 3)], [(0, 2), (2, 3), (0, 3)], [(1, 2), (2, 3), (1, 3)],
     [(0, 1), (1, 2), (2, 3), (0, 3)], [(0, 1), (1, 3), (2, 3), (0, 2)], [(0, 2), (1, 2), (1, 3), (0, 3)],
 ]
-
-
-def wanted_rows(many):
-    return list(itertools.product((0, 1), repeat=many))
 
 
 def ties_of(row):

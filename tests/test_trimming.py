@@ -1,5 +1,3 @@
-import inspect
-import itertools
 import unittest
 
 from leastasks import trimming
@@ -7,32 +5,7 @@ from leastasks.plans import plan_read, plan_shown
 from leastasks.questions import question_made
 from leastasks.texts import question_read
 from leastasks.trimming import row_mistold, trimmed
-
-NO = ("tell", 0)
-YES = ("tell", 1)
-
-
-def wanted_rows(many):
-    return list(itertools.product((0, 1), repeat=many))
-
-
-def every_plan(places):
-    found = [NO, YES]
-    for place in places:
-        further = every_plan([other for other in places if other != place])
-        found.extend(("ask", place, if_no, if_yes) for if_no in further for if_yes in further)
-    return found
-
-
-def every_question(places):
-    return [question_made(places, list(answers)) for answers in itertools.product((0, 1), repeat=2 ** len(places))]
-
-
-def way_of(plan, numbers):
-    if plan[0] == "tell":
-        return (plan[1], [])
-    answer, asked = way_of(plan[2 + numbers[plan[1]]], numbers)
-    return (answer, [plan[1]] + asked)
+from wanted import NO, YES, Case, every_plan, every_question, wanted_rows, way_of
 
 
 def is_some_of(few, many):
@@ -56,13 +29,12 @@ def numbers_by_place(question):
     return [dict(zip(question[0], row)) for row in wanted_rows(len(question[0]))]
 
 
-class Interface(unittest.TestCase):
+class Interface(Case):
     def test_the_arguments_are_called_as_told(self):
-        self.assertEqual(list(inspect.signature(trimming.row_mistold).parameters), ["question", "plan"])
-        self.assertEqual(list(inspect.signature(trimming.trimmed).parameters), ["question", "plan"])
+        self.assert_arguments(trimming, {"row_mistold": "(question, plan)", "trimmed": "(question, plan)"})
 
 
-class Mistold(unittest.TestCase):
+class Mistold(Case):
     def test_written_out(self):
         both = question_made(["rain", "wind"], [0, 0, 0, 1])
         either = question_made(["rain", "wind"], [0, 1, 1, 1])
@@ -96,7 +68,7 @@ class Mistold(unittest.TestCase):
         self.assertIs(type(told), tuple if mistold else type(None))
 
 
-class Trimmed(unittest.TestCase):
+class Trimmed(Case):
     def assert_trimmed(self, question, text, wanted):
         told = trimmed(question, plan_read(text, list(question[0])))
         self.assertEqual(plan_shown(told), wanted)
