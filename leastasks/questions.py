@@ -55,7 +55,7 @@ def turned_about(question, place):
 
 
 def put_in_order(question, places):
-    refuse_other_order(question, places)
+    refuse_other_order(question[0], places)
     spots = [places.index(place) for place in question[0]]
     rows = [picked(row, spots) for row in rows_of(len(places))]
     return (tuple(places), tuple([answer_to(question, row) for row in rows]))
@@ -103,6 +103,6 @@ def count_of_rows(many):
     return row_number((1,) * many) + 1
 
 
-def refuse_other_order(question, places):
-    if sorted(places) != sorted(question[0]):
+def refuse_other_order(places, order):
+    if sorted(order) != sorted(places):
         raise NoPlace("the order is to have each place of the question once, and no others")

@@ -15,7 +15,7 @@ def worst_plan(question, prices=None):
 
 def foe_answer(question, part, place, prices=None):
     spot = spot_of(question, place)
-    numbers = numbers_within(part, question, worst_cost_of_ask(question, prices))
+    numbers = least_numbers(part, question, worst_cost_of_ask(question, prices))
     behind = numbers_behind(numbers, part, spot)
     return 0 if behind[0] > behind[1] else 1
 
@@ -26,21 +26,24 @@ def worst_cost_of_ask(question, prices):
 
 
 def least_table(question, cost_of_ask):
-    numbers = numbers_within(all_open(question), question, cost_of_ask)
-    return tuple(numbers.values())
+    return tuple(least_numbers(all_open(question), question, cost_of_ask).values())
 
 
 def least_plan(question, cost_of_ask):
     part = all_open(question)
-    return least_plan_at(part, question, cost_of_ask, numbers_within(part, question, cost_of_ask))
+    return least_plan_at(part, question, cost_of_ask, least_numbers(part, question, cost_of_ask))
 
 
-def numbers_within(whole_part, question, cost_of_ask):
+def least_numbers(whole_part, question, cost_of_ask):
+    return numbers_within(whole_part, question, lambda numbers, part: cheapest_ask(numbers, part, cost_of_ask)[0])
+
+
+def numbers_within(whole_part, question, number_unsettled):
     # A part told further stands ahead of the part, so its number is there when it is wanted.
     numbers = {}
     for part in parts_in(whole_part):
         settled = settled_by(question, part) is not None
-        numbers[part] = 0 if settled else cheapest_ask(numbers, part, cost_of_ask)[0]
+        numbers[part] = 0 if settled else number_unsettled(numbers, part)
     return numbers
 
 

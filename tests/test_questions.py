@@ -8,7 +8,7 @@ from leastasks.errors import NoPlace, NoWord, Twice, Unlike, WrongAnswers, Wrong
 from leastasks.questions import (
     answer_to, counted_in, denied, put_in_order, question_made, row_apart, settled_by, sure_of, turned_about,
 )
-from wanted import Case, every_question, fits, wanted_parts, wanted_rows
+from wanted import WRONG_ORDERS, Case, every_question, fits, wanted_parts, wanted_rows
 
 NAMES = ["rain", "wind", "a", "zzzzzzzz", "all", "abcdefgh"]
 COUNTS = range(1, 7)
@@ -302,12 +302,7 @@ class Ordered(QuestionCase):
 
     def test_wrong_orders(self):
         question = question_made(["a", "b", "c"], [0, 0, 0, 0, 1, 1, 0, 1])
-        wrong = [
-            [], ["a"], ["a", "b"], ["b", "c"], ["a", "a", "b"], ["a", "b", "b"], ["c", "c", "c"],
-            ["a", "b", "d"], ["d", "b", "c"], ["a", "b", "C"], ["a", "b", ""],
-            ["a", "b", "c", "d"], ["a", "b", "c", "a"], ["c", "b", "a", "b", "c", "a"],
-        ]
-        for order in wrong:
+        for order in WRONG_ORDERS:
             self.assert_refused(NoPlace, put_in_order, question, order)
             self.assert_refused(NoPlace, put_in_order, question, tuple(order))
 

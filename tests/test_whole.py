@@ -11,8 +11,8 @@ from leastasks.texts import question_read
 from leastasks.trimming import row_mistold
 from leastasks.whole import mean_price, whole_plan, whole_table
 from wanted import (
-    MILLION, NO, SIX, YES, Case, answers_left, every_question, row_numbers, wanted_parts, ways_by_question, with_answer,
-    wrong_prices, wrong_weights,
+    MILLION, NO, SIX, YES, Case, answers_left, every_question, questions_by_step, row_numbers, wanted_parts,
+    ways_by_question, with_answer, wrong_prices, wrong_weights,
 )
 
 BOTH = question_made(["rain", "wind"], [0, 0, 0, 1])
@@ -31,9 +31,7 @@ WEIGHTS_BY_COUNT = {
 
 
 def some_questions(many):
-    steps = {1: 1, 2: 1, 3: 5, 4: 2221}
-    every = every_question(SIX[:many])
-    return every[::steps[many]] + every[-1:]
+    return questions_by_step(many, {3: 5, 4: 2221})
 
 
 def prices_tried(many):

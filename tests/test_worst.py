@@ -11,8 +11,8 @@ from leastasks.texts import question_read
 from leastasks.trimming import row_mistold
 from leastasks.worst import foe_answer, worst_plan, worst_table
 from wanted import (
-    MILLION, NO, SIX, YES, Case, answers_left, every_question, wanted_parts, ways_by_question, with_answer,
-    wrong_prices,
+    MILLION, NO, SIX, YES, Case, answers_left, every_question, questions_by_step, wanted_parts, ways_by_question,
+    with_answer, wrong_prices,
 )
 
 BOTH = question_made(["rain", "wind"], [0, 0, 0, 1])
@@ -25,10 +25,7 @@ PRICES_BY_COUNT = {
 
 
 def some_questions(many):
-    # All of one or two places, and of more those in odd steps, so that every row has both answers somewhere.
-    steps = {1: 1, 2: 1, 3: 3, 4: 1301}
-    every = every_question(SIX[:many])
-    return every[::steps[many]] + every[-1:]
+    return questions_by_step(many, {3: 3, 4: 1301})
 
 
 def prices_tried(many):

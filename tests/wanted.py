@@ -9,6 +9,12 @@ SIX = ["a", "b", "c", "d", "e", "f"]
 MILLION = 10 ** 6
 NO = ("tell", 0)
 YES = ("tell", 1)
+# None of them has each of a, b and c just once.
+WRONG_ORDERS = [
+    [], ["a"], ["a", "b"], ["b", "c"], ["a", "a", "b"], ["a", "b", "b"], ["c", "c", "c"],
+    ["a", "b", "d"], ["d", "b", "c"], ["a", "b", "C"], ["a", "b", ""],
+    ["a", "b", "c", "d"], ["a", "b", "c", "a"], ["c", "b", "a", "b", "c", "a"],
+]
 
 
 def wanted_rows(many):
@@ -36,8 +42,31 @@ def with_answer(part, spot, answer):
     return part[:spot] + (answer,) + part[spot + 1:]
 
 
+def turned_at(part, spot):
+    return with_answer(part, spot, {0: 1, 1: 0, 2: 2}[part[spot]])
+
+
+def every_round(part, at_once):
+    # All choices of one to so many open spots.
+    open_spots = [spot for spot, told in enumerate(part) if told == 2]
+    return [spots for size in range(1, at_once + 1) for spots in itertools.combinations(open_spots, size)]
+
+
+def parts_behind(part, spots):
+    found = [part]
+    for spot in spots:
+        found = [with_answer(further, spot, answer) for further in found for answer in (0, 1)]
+    return found
+
+
 def every_question(places):
     return [(tuple(places), answers) for answers in itertools.product((0, 1), repeat=2 ** len(places))]
+
+
+def questions_by_step(many, steps):
+    # Of more places than two not all; by odd steps, so that every row has both answers somewhere.
+    every = every_question(SIX[:many])
+    return every[::steps.get(many, 1)] + every[-1:]
 
 
 def every_plan(places):
